@@ -638,16 +638,23 @@ func mustLive(t *testing.T, x impl.Pool, live liver, reply int64, out int64) imp
 	return y
 }
 
+// allRunning is a new pool in which so many were spawned and taken: worker 0 runs task 0, worker 1 runs task 1 and so on.
+func allRunning(t *testing.T, p impl.Plan, count int64) impl.Pool {
+	t.Helper()
+	x := impl.NewPool(p)
+	for id := range count {
+		x = mustLive(t, x, liveSpawned(p, 0, 0), 1, id)
+		x = mustLive(t, x, liveTaken(p, id), 1, id)
+	}
+	return x
+}
+
 // So many join one task in an order of their own; then it ends, or is cancelled: they come in that order, each with its value.
 func TestWhoeverJoinsGetsTheValueOfWhatEnds(t *testing.T) {
 	p := impl.Plan{Workers: 6, Tasks: 6, Levels: 1}
 	for count := int64(0); count <= 4; count++ {
 		for _, order := range permutations(count) {
-			x := impl.NewPool(p)
-			for id := range count + 1 {
-				x = mustLive(t, x, liveSpawned(p, 0, 0), 1, id)
-				x = mustLive(t, x, liveTaken(p, id), 1, id)
-			}
+			x := allRunning(t, p, count+1)
 			for _, one := range order {
 				x = mustLive(t, x, liveJoined(p, one, count), 7, one)
 				if k := x.Tasks[one]; k != (impl.Task{State: 3, Owner: -1, Wait: 1, On: count, Turn: x.Turn - 1}) {

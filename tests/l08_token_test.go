@@ -503,11 +503,7 @@ func TestWhoeverWaitsForATokenGetsIt(t *testing.T) {
 	for count := int64(0); count <= 4; count++ {
 		for _, order := range permutations(count) {
 			for kind := range int64(3) {
-				x := impl.NewPool(p)
-				for id := range count + 1 {
-					x = mustLive(t, x, liveSpawned(p, 0, 0), 1, id)
-					x = mustLive(t, x, liveTaken(p, id), 1, id)
-				}
+				x := allRunning(t, p, count+1)
 				for _, one := range order {
 					x = mustLive(t, x, liveDowned(p, one, kind), 7, one)
 					if k := x.Tasks[one]; k != (impl.Task{State: 3, Owner: -1, Wait: 2, On: kind, Turn: x.Turn - 1}) {
@@ -565,11 +561,7 @@ func TestTokensUpAndDown(t *testing.T) {
 // Who is cancelled waits no more: the token that comes then is for the next one, or is free.
 func TestNoTokenForWhoIsCancelled(t *testing.T) {
 	p := impl.Plan{Workers: 3, Tasks: 3, Levels: 1, Tokens: 1}
-	x := impl.NewPool(p)
-	for id := range int64(3) {
-		x = mustLive(t, x, liveSpawned(p, 0, 0), 1, id)
-		x = mustLive(t, x, liveTaken(p, id), 1, id)
-	}
+	x := allRunning(t, p, 3)
 	x = mustLive(t, x, liveDowned(p, 1, 0), 7, 1)
 	x = mustLive(t, x, liveDowned(p, 0, 0), 7, 0)
 	x = mustLive(t, x, liveCancelled(p, 2, 1), 1, 0)
